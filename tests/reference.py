@@ -67,16 +67,37 @@ def lies_in(m, x, number):
 
 def points_between(m, x, low, high):
     """All points of the window from the whole number low on, below high: rising."""
-    # A number less its partner is b times the root: both have bounds, so b has, and then a.
+    # A number less its partner is b times the root: both have bounds, so b has. With b, the
+    # partner's bounds tell a's.
     least_b = (2 * low * UNIT - place(m, x[2:])) // (2 * ROOTS[m]) - 1
     most_b = (2 * high * UNIT - place(m, x[:2])) // (2 * ROOTS[m]) + 1
     found = []
     for b in range(least_b, most_b + 1):
-        less = place(m, [0, b]) // (2 * UNIT)
-        for a in range(low - less - 2, high - less + 3):
+        less = partner_place(m, [0, b])
+        least_a = (place(m, x[:2]) - less) // (2 * UNIT) - 1
+        most_a = (place(m, x[2:]) - less) // (2 * UNIT) + 1
+        for a in range(least_a, most_a + 1):
             if low * 2 * UNIT <= place(m, [a, b]) < high * 2 * UNIT and lies_in(m, x, [a, b]):
                 found.append([a, b])
     return sorted(found, key=lambda number: place(m, number))
+
+
+def own_point(m, x):
+    """The least whole number that isn't below where the window begins."""
+    return [-(-place(m, x[:2]) // (2 * UNIT)), 0]
+
+
+def points_around_own(m, x, how_many):
+    """So many points behind the window's own, then it, then as many ahead of it."""
+    own = own_point(m, x)
+    reach = m + 3
+    found = [own]
+    middle = 0
+    while min(middle, len(found) - 1 - middle) < how_many:
+        reach += reach // 3
+        found = points_between(m, x, own[0] - reach, own[0] + reach)
+        middle = found.index(own)
+    return found[middle - how_many:middle + how_many + 1]
 
 
 def lengths(m):

@@ -8,8 +8,9 @@ import pathlib
 import unittest
 
 import windowpoints
-from windowpoints.cut import next_of, point
+from windowpoints.cut import back, first, next_of, point
 
+ALL = (point, next_of, back, first)
 PACKAGE = pathlib.Path(windowpoints.__file__).parent
 CALLS = (
     (1, [0, 0, 1, 0], [0, 0]),
@@ -22,29 +23,37 @@ CALLS = (
     (1, [], []),
     (1, [0, 0, 1, 0, 5, 6, 7, 8], [1, 2, 3, 4, 5, 6, 7, 8]),
     (1, [0, 0, 1, 0], [1000001, 0]),
+    (3, [0, 0, 1, 1], [-20, -15]),
+    (2, [7, -4, 8, -4], [1000000, 1000000]),
+    (4, [0, 1000000, 1, 1000000], [0, 1000000]),
 )
 
 
 class Interface(unittest.TestCase):
     def test_names_and_arguments(self):
-        for call in (point, next_of):
+        for call in (point, next_of, back):
             self.assertEqual(list(inspect.signature(call).parameters), ["m", "x", "z"])
+        self.assertEqual(list(inspect.signature(first).parameters), ["m", "x", "y"])
+        for call in ALL:
             self.assertEqual(call.__module__, "windowpoints.cut")
         self.assertEqual(point(m=1, x=[0, 0, 1, 0], z=[1, 1]), [1])
         self.assertEqual(next_of(m=1, x=[0, 0, 1, 0], z=[1, 1]), [0, 2, 2])
+        self.assertEqual(back(m=1, x=[0, 0, 1, 0], z=[1, 1]), [0, 0, 0])
+        self.assertEqual(first(m=1, x=[0, 0, 1, 0], y=[1, 0]), [0, 1, 1])
 
     def test_one_list_of_whole_numbers_is_given_back(self):
         for m, x, z in CALLS:
-            for call in (point, next_of):
+            for call in ALL:
                 answer = call(m, x, z)
                 self.assertIs(type(answer), list)
                 self.assertTrue(all(type(number) is int for number in answer), answer)
             self.assertEqual(len(point(m, x, z)), 1)
-            self.assertEqual(len(next_of(m, x, z)), 3 if next_of(m, x, z)[0] == 0 else 1)
+            for call in (next_of, back, first):
+                self.assertEqual(len(call(m, x, z)), 3 if call(m, x, z)[0] == 0 else 1)
 
     def test_what_is_handed_in_is_not_changed(self):
         for m, x, z in CALLS:
-            for call in (point, next_of):
+            for call in ALL:
                 own_x = list(x)
                 own_z = list(z)
                 call(m, own_x, own_z)
@@ -59,11 +68,11 @@ class Interface(unittest.TestCase):
             append = extend = insert = pop = remove = clear = sort = reverse = refuse
 
         for m, x, z in CALLS:
-            for call in (point, next_of):
+            for call in ALL:
                 self.assertEqual(call(m, Watched(x), Watched(z)), call(m, x, z))
 
     def test_nothing_is_kept(self):
-        for call in (point, next_of):
+        for call in ALL:
             fresh = [call(m, list(x), list(z)) for m, x, z in CALLS]
             for answer, (m, x, z) in zip(reversed(fresh), reversed(CALLS)):
                 again = call(m, x, z)
@@ -74,15 +83,16 @@ class Interface(unittest.TestCase):
     def test_one_list_for_both(self):
         # The same list as x and as z is no window or no number, and stays as it is.
         both = [0, 0, 1, 0]
-        self.assertEqual(next_of(1, both, both), [-22])
+        for call in ALL:
+            self.assertEqual(call(1, both, both), [-22])
         self.assertEqual(both, [0, 0, 1, 0])
 
     def test_nothing_is_printed(self):
         out = io.StringIO()
         with contextlib.redirect_stdout(out), contextlib.redirect_stderr(out):
             for m, x, z in CALLS:
-                point(m, x, z)
-                next_of(m, x, z)
+                for call in ALL:
+                    call(m, x, z)
         self.assertEqual(out.getvalue(), "")
 
 

@@ -1,9 +1,9 @@
-"""Refusals of point and next_of: -22 for what isn't as told; then, of next_of, -2."""
+"""Refusals: -22 for what isn't as told; then, of next_of and back, -2; of first -75."""
 
 import unittest
 
-from tests.reference import EVERY_M, minus, partner, plus, smallest, window
-from windowpoints.cut import next_of, point
+from tests.reference import EVERY_M, UNIT, minus, own_point, partner, place, plus, smallest, window
+from windowpoints.cut import back, first, next_of, point
 
 FAR = 1000000
 FARTHEST_LIST_PART = 2147483647
@@ -14,16 +14,27 @@ WRONG_M = (0, 5, 4294967295)
 
 class Refusals(unittest.TestCase):
     def refused(self, m, x, z):
-        self.assertEqual(point(m, x, z), [-22], (m, x, z))
-        self.assertEqual(next_of(m, x, z), [-22], (m, x, z))
+        for call in (point, next_of, back, first):
+            self.assertEqual(call(m, x, z), [-22], (call, m, x, z))
 
     def taken(self, m, x, z):
         self.assertEqual(point(m, x, z), [1], (m, x, z))
         self.assertEqual(next_of(m, x, z)[0], 0, (m, x, z))
+        self.assertEqual(back(m, x, z)[0], 0, (m, x, z))
+        self.first_is_z_or_too_far(m, x, z)
 
     def not_a_point(self, m, x, z):
         self.assertEqual(point(m, x, z), [0], (m, x, z))
         self.assertEqual(next_of(m, x, z), [-2], (m, x, z))
+        self.assertEqual(back(m, x, z), [-2], (m, x, z))
+        # For first a number needn't be a point.
+        self.assertIn(first(m, x, z)[0], (0, -75), (m, x, z))
+
+    def first_is_z_or_too_far(self, m, x, z):
+        # Points lie as densely as the window's length by the root of m m and 4: below 18 by 4.4 for 4.
+        own = own_point(m, x)
+        near = abs(place(m, minus(z, own))) < 2 * 90 * UNIT
+        self.assertEqual(first(m, x, z), [0] + z if near else [-75], (m, x, z))
 
 
 class WrongM(Refusals):
@@ -139,6 +150,15 @@ class NotPoints(Refusals):
                 self.not_a_point(m, x, partner(m, minus(start, smallest(m))))
 
 
+class TooFarForFirst(unittest.TestCase):
+    def test_y_too_far_from_the_own_point(self):
+        for m in EVERY_M:
+            for y in ([FAR, 0], [-FAR, 0], [0, FAR], [0, -FAR]):
+                self.assertEqual(first(m, GOOD_WINDOW, y), [-75])
+            self.assertEqual(first(m, [FAR - 1, FAR, FAR, FAR], GOOD_NUMBER), [-75])
+            self.assertEqual(first(m, [-FAR, -FAR, 1 - FAR, -FAR], GOOD_NUMBER), [-75])
+
+
 class SeveralFaults(Refusals):
     def test_what_is_told_first_is_answered(self):
         no_point = [40, 7]
@@ -154,6 +174,18 @@ class SeveralFaults(Refusals):
             self.refused(m, GOOD_WINDOW, [FAR + 1, 7])
             self.refused(m, [], [])
             self.refused(m, [FAR + 1, 0, FAR + 2, 0], [FAR + 1, 0])
+
+    def test_what_is_not_as_told_goes_ahead_of_too_far(self):
+        too_far = [FAR, FAR]
+        for m in WRONG_M:
+            self.refused(m, GOOD_WINDOW, too_far)
+        for m in EVERY_M:
+            self.assertEqual(first(m, GOOD_WINDOW, too_far), [-75])
+            self.refused(m, [0, 0, 0, 0], too_far)
+            self.refused(m, [0, 0, 1, m], too_far)
+            self.refused(m, [0, 0, 1, 0, 0], too_far)
+            self.refused(m, GOOD_WINDOW, too_far + [0])
+            self.refused(m, GOOD_WINDOW, [FAR, FAR + 1])
 
 
 if __name__ == "__main__":

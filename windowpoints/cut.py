@@ -7,6 +7,8 @@ whole numbers: x[0] and x[1] w, from where it is, and x[2] and x[3] w, up to whe
 FARTHEST = 1000000
 NOT_AS_TOLD = -22
 NOT_A_POINT = -2
+TOO_FAR = -75
+MOST_POINTS_AWAY = 400
 
 
 def is_below_zero(m, a, b):
@@ -46,8 +48,8 @@ def is_window(m, x):
     return not is_below(m, length, (1, 0)) and is_below(m, length, square_of_w)
 
 
-def are_right(m, x, z):
-    return 1 <= m <= 4 and is_window(m, x) and is_as_told(z, 2)
+def are_right(m, x, number):
+    return 1 <= m <= 4 and is_window(m, x) and is_as_told(number, 2)
 
 
 def is_point(m, x, number):
@@ -72,6 +74,57 @@ def point_after(m, x, number):
     return moved(number, (1, 1))
 
 
+def point_before(m, x, number):
+    for step in steps_below_longest(m):
+        behind = moved(number, (-step[0], -step[1]))
+        if is_point(m, x, behind):
+            return behind
+    # No step is longer than w and 1, so one that leads here and is none of those is it.
+    return moved(number, (-1, -1))
+
+
+def own_point(m, x):
+    # w is below m and 1, so the window begins within this of 0; halving what is left finds
+    # the whole number without a root.
+    farthest = (m + 2) * FARTHEST
+    low = -farthest
+    high = farthest
+    while low < high:
+        middle = (low + high) // 2
+        if is_below(m, (middle, 0), (x[0], x[1])):
+            low = middle + 1
+        else:
+            high = middle
+    return (low, 0)
+
+
+def first_ahead(m, x, start, y):
+    here = start
+    for away in range(MOST_POINTS_AWAY + 1):
+        if not is_below(m, here, y):
+            return here
+        here = point_after(m, x, here)
+    return None
+
+
+def first_behind(m, x, start, y):
+    here = start
+    for away in range(MOST_POINTS_AWAY + 1):
+        behind = point_before(m, x, here)
+        if is_below(m, behind, y):
+            return here
+        here = behind
+    return None
+
+
+def first_from(m, x, y):
+    """The least point that isn't below y, or None if it is too far from the window's own."""
+    own = own_point(m, x)
+    if is_below(m, own, y):
+        return first_ahead(m, x, own, y)
+    return first_behind(m, x, own, y)
+
+
 def point(m, x, z):
     if not are_right(m, x, z):
         return [NOT_AS_TOLD]
@@ -85,3 +138,21 @@ def next_of(m, x, z):
         return [NOT_A_POINT]
     ahead = point_after(m, x, z)
     return [0, ahead[0], ahead[1]]
+
+
+def back(m, x, z):
+    if not are_right(m, x, z):
+        return [NOT_AS_TOLD]
+    if not is_point(m, x, z):
+        return [NOT_A_POINT]
+    behind = point_before(m, x, z)
+    return [0, behind[0], behind[1]]
+
+
+def first(m, x, y):
+    if not are_right(m, x, y):
+        return [NOT_AS_TOLD]
+    found = first_from(m, x, y)
+    if found is None:
+        return [TOO_FAR]
+    return [0, found[0], found[1]]
