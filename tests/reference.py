@@ -112,3 +112,13 @@ def lengths(m):
         for length in ([k - m, 1], [1, k]):
             beside += [plus(length, near), minus(length, near)]
     return [length for length in plain + beside if is_length(m, length)]
+
+
+def few_lengths(m):
+    """A length of 1 and just above, w, and one nearly w w."""
+    near = smallest(m)
+    return [[1, 0], plus([1, 0], near), [0, 1], minus([1, m], near)]
+
+
+def some_lengths(m):
+    return few_lengths(m) + lengths(m)[::20]

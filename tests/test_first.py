@@ -2,23 +2,13 @@
 
 import unittest
 
-from tests.reference import (EVERY_M, lengths, lies_in, minus, own_point, partner, place, plus,
-                             points_around_own, points_between, smallest, window)
+from tests.reference import (EVERY_M, few_lengths, lengths, lies_in, minus, own_point, partner, place, plus,
+                             points_around_own, points_between, smallest, some_lengths, window)
 from windowpoints.cut import back, first, next_of
 
 FAR = 1000000
 TOO_FAR = [-75]
 MOST = 400
-
-
-def few_lengths(m):
-    """A length of 1 and just above, w, and one nearly w w."""
-    near = smallest(m)
-    return [[1, 0], plus([1, 0], near), [0, 1], minus([1, m], near)]
-
-
-def some_lengths(m):
-    return few_lengths(m) + lengths(m)[::20]
 
 
 def least_not_below(m, points, y):

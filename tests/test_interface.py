@@ -8,9 +8,8 @@ import pathlib
 import unittest
 
 import windowpoints
-from windowpoints.cut import back, first, next_of, point
+from windowpoints.cut import back, count, first, next_of, point, row
 
-ALL = (point, next_of, back, first)
 PACKAGE = pathlib.Path(windowpoints.__file__).parent
 CALLS = (
     (1, [0, 0, 1, 0], [0, 0]),
@@ -27,37 +26,63 @@ CALLS = (
     (2, [7, -4, 8, -4], [1000000, 1000000]),
     (4, [0, 1000000, 1, 1000000], [0, 1000000]),
 )
+ARGUMENTS = {
+    point: ["m", "x", "z"],
+    next_of: ["m", "x", "z"],
+    back: ["m", "x", "z"],
+    first: ["m", "x", "y"],
+    row: ["m", "k", "x", "z"],
+    count: ["m", "x", "y", "z"],
+}
+
+
+def every_call():
+    """Each call with all that may be handed in: its name, then its arguments."""
+    found = []
+    for m, x, z in CALLS:
+        for call in (point, next_of, back, first):
+            found.append((call, (m, x, z)))
+        for k in (1, 7, 60, 61):
+            found.append((row, (m, k, x, z)))
+        for other in ([0, 0], [9, -2], [1000000, 0], [1]):
+            found.append((count, (m, x, z, other)))
+            found.append((count, (m, x, other, z)))
+    return found
+
+
+def copied(given):
+    return [list(part) if isinstance(part, list) else part for part in given]
 
 
 class Interface(unittest.TestCase):
     def test_names_and_arguments(self):
-        for call in (point, next_of, back):
-            self.assertEqual(list(inspect.signature(call).parameters), ["m", "x", "z"])
-        self.assertEqual(list(inspect.signature(first).parameters), ["m", "x", "y"])
-        for call in ALL:
+        for call, arguments in ARGUMENTS.items():
+            self.assertEqual(list(inspect.signature(call).parameters), arguments)
             self.assertEqual(call.__module__, "windowpoints.cut")
         self.assertEqual(point(m=1, x=[0, 0, 1, 0], z=[1, 1]), [1])
         self.assertEqual(next_of(m=1, x=[0, 0, 1, 0], z=[1, 1]), [0, 2, 2])
         self.assertEqual(back(m=1, x=[0, 0, 1, 0], z=[1, 1]), [0, 0, 0])
         self.assertEqual(first(m=1, x=[0, 0, 1, 0], y=[1, 0]), [0, 1, 1])
+        self.assertEqual(row(m=1, k=2, x=[0, 0, 1, 0], z=[1, 1]), [2, 1, 1, 2, 2])
+        self.assertEqual(count(m=1, x=[0, 0, 1, 0], y=[0, 0], z=[3, 0]), [2])
 
     def test_one_list_of_whole_numbers_is_given_back(self):
-        for m, x, z in CALLS:
-            for call in ALL:
-                answer = call(m, x, z)
-                self.assertIs(type(answer), list)
-                self.assertTrue(all(type(number) is int for number in answer), answer)
-            self.assertEqual(len(point(m, x, z)), 1)
-            for call in (next_of, back, first):
-                self.assertEqual(len(call(m, x, z)), 3 if call(m, x, z)[0] == 0 else 1)
+        for call, given in every_call():
+            answer = call(*given)
+            self.assertIs(type(answer), list)
+            self.assertTrue(all(type(number) is int for number in answer), answer)
+            self.assertEqual(len(answer), self.length_of(call, answer), (call, given))
+
+    def length_of(self, call, answer):
+        if answer[0] < 0 or call in (point, count):
+            return 1
+        return 1 + 2 * answer[0] if call is row else 3
 
     def test_what_is_handed_in_is_not_changed(self):
-        for m, x, z in CALLS:
-            for call in ALL:
-                own_x = list(x)
-                own_z = list(z)
-                call(m, own_x, own_z)
-                self.assertEqual((own_x, own_z), (x, z))
+        for call, given in every_call():
+            own = copied(given)
+            call(*own)
+            self.assertEqual(own, list(given))
 
     def test_what_is_handed_in_is_not_changed_for_a_while_either(self):
         class Watched(list):
@@ -67,32 +92,41 @@ class Interface(unittest.TestCase):
             __setitem__ = __delitem__ = __iadd__ = __imul__ = refuse
             append = extend = insert = pop = remove = clear = sort = reverse = refuse
 
-        for m, x, z in CALLS:
-            for call in ALL:
-                self.assertEqual(call(m, Watched(x), Watched(z)), call(m, x, z))
+        for call, given in every_call():
+            watched = [Watched(part) if isinstance(part, list) else part for part in given]
+            self.assertEqual(call(*watched), call(*given))
 
     def test_nothing_is_kept(self):
-        for call in ALL:
-            fresh = [call(m, list(x), list(z)) for m, x, z in CALLS]
-            for answer, (m, x, z) in zip(reversed(fresh), reversed(CALLS)):
-                again = call(m, x, z)
-                self.assertEqual(again, answer)
-                again.append(99)
-                self.assertEqual(call(m, x, z), answer)
+        # Asked twice, with all others between; what was given back may be changed.
+        calls = every_call()
+        fresh = [call(*copied(given)) for call, given in calls]
+        for answer, (call, given) in zip(reversed(fresh), reversed(calls)):
+            again = call(*given)
+            self.assertEqual(again, answer)
+            again.append(99)
+            again[0] = 99
+            self.assertEqual(call(*given), answer)
 
-    def test_one_list_for_both(self):
+    def test_one_list_for_all(self):
         # The same list as x and as z is no window or no number, and stays as it is.
         both = [0, 0, 1, 0]
-        for call in ALL:
+        for call in (point, next_of, back, first):
             self.assertEqual(call(1, both, both), [-22])
+        self.assertEqual(row(1, 1, both, both), [-22])
+        self.assertEqual(count(1, both, both, both), [-22])
         self.assertEqual(both, [0, 0, 1, 0])
+
+    def test_what_is_given_back_is_not_what_is_handed_in(self):
+        z = [0, 0]
+        answer = row(1, 1, [0, 0, 1, 0], z)
+        answer[1] = 7
+        self.assertEqual(z, [0, 0])
 
     def test_nothing_is_printed(self):
         out = io.StringIO()
         with contextlib.redirect_stdout(out), contextlib.redirect_stderr(out):
-            for m, x, z in CALLS:
-                for call in ALL:
-                    call(m, x, z)
+            for call, given in every_call():
+                call(*given)
         self.assertEqual(out.getvalue(), "")
 
 

@@ -7,8 +7,10 @@ whole numbers: x[0] and x[1] w, from where it is, and x[2] and x[3] w, up to whe
 FARTHEST = 1000000
 NOT_AS_TOLD = -22
 NOT_A_POINT = -2
-TOO_FAR = -75
+TOO_MANY_POINTS = -75
 MOST_POINTS_AWAY = 400
+MOST_COUNTED = 399
+LONGEST_ROW = 60
 
 
 def is_below_zero(m, a, b):
@@ -125,6 +127,30 @@ def first_from(m, x, y):
     return first_behind(m, x, own, y)
 
 
+def points_from(m, x, start, how_many):
+    points = [start]
+    while len(points) < how_many:
+        points.append(point_after(m, x, points[-1]))
+    return points
+
+
+def how_many_below(m, x, start, z):
+    """How many points from start on are below z, counted no farther than to one too many."""
+    here = start
+    how_many = 0
+    while how_many <= MOST_COUNTED and is_below(m, here, z):
+        how_many += 1
+        here = point_after(m, x, here)
+    return how_many
+
+
+def answer_of(leading, numbers):
+    answer = [leading]
+    for number in numbers:
+        answer.extend([number[0], number[1]])
+    return answer
+
+
 def point(m, x, z):
     if not are_right(m, x, z):
         return [NOT_AS_TOLD]
@@ -136,8 +162,7 @@ def next_of(m, x, z):
         return [NOT_AS_TOLD]
     if not is_point(m, x, z):
         return [NOT_A_POINT]
-    ahead = point_after(m, x, z)
-    return [0, ahead[0], ahead[1]]
+    return answer_of(0, [point_after(m, x, z)])
 
 
 def back(m, x, z):
@@ -145,8 +170,7 @@ def back(m, x, z):
         return [NOT_AS_TOLD]
     if not is_point(m, x, z):
         return [NOT_A_POINT]
-    behind = point_before(m, x, z)
-    return [0, behind[0], behind[1]]
+    return answer_of(0, [point_before(m, x, z)])
 
 
 def first(m, x, y):
@@ -154,5 +178,25 @@ def first(m, x, y):
         return [NOT_AS_TOLD]
     found = first_from(m, x, y)
     if found is None:
-        return [TOO_FAR]
-    return [0, found[0], found[1]]
+        return [TOO_MANY_POINTS]
+    return answer_of(0, [found])
+
+
+def row(m, k, x, z):
+    if not are_right(m, x, z) or not 1 <= k <= LONGEST_ROW:
+        return [NOT_AS_TOLD]
+    if not is_point(m, x, z):
+        return [NOT_A_POINT]
+    return answer_of(k, points_from(m, x, z, k))
+
+
+def count(m, x, y, z):
+    if not are_right(m, x, y) or not is_as_told(z, 2):
+        return [NOT_AS_TOLD]
+    found = first_from(m, x, y)
+    if found is None:
+        return [TOO_MANY_POINTS]
+    how_many = how_many_below(m, x, found, z)
+    if how_many > MOST_COUNTED:
+        return [TOO_MANY_POINTS]
+    return [how_many]
