@@ -8,7 +8,7 @@ import pathlib
 import unittest
 
 import windowpoints
-from windowpoints.cut import back, count, first, next_of, point, row
+from windowpoints.cut import back, count, first, next_of, parts, point, row, steps
 
 PACKAGE = pathlib.Path(windowpoints.__file__).parent
 CALLS = (
@@ -33,6 +33,8 @@ ARGUMENTS = {
     first: ["m", "x", "y"],
     row: ["m", "k", "x", "z"],
     count: ["m", "x", "y", "z"],
+    steps: ["m", "x"],
+    parts: ["m", "x"],
 }
 
 
@@ -47,6 +49,8 @@ def every_call():
         for other in ([0, 0], [9, -2], [1000000, 0], [1]):
             found.append((count, (m, x, z, other)))
             found.append((count, (m, x, other, z)))
+        for call in (steps, parts):
+            found.append((call, (m, x)))
     return found
 
 
@@ -65,6 +69,8 @@ class Interface(unittest.TestCase):
         self.assertEqual(first(m=1, x=[0, 0, 1, 0], y=[1, 0]), [0, 1, 1])
         self.assertEqual(row(m=1, k=2, x=[0, 0, 1, 0], z=[1, 1]), [2, 1, 1, 2, 2])
         self.assertEqual(count(m=1, x=[0, 0, 1, 0], y=[0, 0], z=[3, 0]), [2])
+        self.assertEqual(steps(m=1, x=[0, 0, 1, 0]), [2, 0, 1, 1, 1])
+        self.assertEqual(parts(m=1, x=[0, 0, 1, 0]), [2, 0, 1, -1, 1, 1, 0, 1, 1, 0, 0, -1, 1])
 
     def test_one_list_of_whole_numbers_is_given_back(self):
         for call, given in every_call():
@@ -76,7 +82,23 @@ class Interface(unittest.TestCase):
     def length_of(self, call, answer):
         if answer[0] < 0 or call in (point, count):
             return 1
-        return 1 + 2 * answer[0] if call is row else 3
+        if call is parts:
+            return 1 + 6 * answer[0]
+        return 1 + 2 * answer[0] if call in (row, steps) else 3
+
+    def test_a_refusal_is_its_number_alone(self):
+        refusals = {call: set() for call in ARGUMENTS}
+        for call, given in every_call():
+            answer = call(*given)
+            if answer[0] < 0:
+                self.assertEqual(len(answer), 1)
+                refusals[call].add(answer[0])
+        for call in (point, steps, parts):
+            self.assertEqual(refusals[call], {-22})
+        for call in (next_of, back, row):
+            self.assertEqual(refusals[call], {-22, -2})
+        for call in (first, count):
+            self.assertEqual(refusals[call], {-22, -75})
 
     def test_what_is_handed_in_is_not_changed(self):
         for call, given in every_call():
@@ -115,6 +137,11 @@ class Interface(unittest.TestCase):
         self.assertEqual(row(1, 1, both, both), [-22])
         self.assertEqual(count(1, both, both, both), [-22])
         self.assertEqual(both, [0, 0, 1, 0])
+
+    def test_one_list_for_both_numbers(self):
+        number = [0, 0]
+        self.assertEqual(count(1, [0, 0, 1, 0], number, number), [0])
+        self.assertEqual(number, [0, 0])
 
     def test_what_is_given_back_is_not_what_is_handed_in(self):
         z = [0, 0]

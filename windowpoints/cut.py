@@ -11,6 +11,7 @@ TOO_MANY_POINTS = -75
 MOST_POINTS_AWAY = 400
 MOST_COUNTED = 399
 LONGEST_ROW = 60
+LONGEST_STEP = (1, 1)
 
 
 def is_below_zero(m, a, b):
@@ -34,6 +35,10 @@ def moved(number, step):
     return (number[0] + step[0], number[1] + step[1])
 
 
+def moved_back(number, step):
+    return (number[0] - step[0], number[1] - step[1])
+
+
 def partner_of(m, number):
     return (number[0] + m * number[1], -number[1])
 
@@ -50,8 +55,12 @@ def is_window(m, x):
     return not is_below(m, length, (1, 0)) and is_below(m, length, square_of_w)
 
 
+def is_right_window(m, x):
+    return 1 <= m <= 4 and is_window(m, x)
+
+
 def are_right(m, x, number):
-    return 1 <= m <= 4 and is_window(m, x) and is_as_told(number, 2)
+    return is_right_window(m, x) and is_as_told(number, 2)
 
 
 def is_point(m, x, number):
@@ -73,16 +82,16 @@ def point_after(m, x, number):
         if is_point(m, x, ahead):
             return ahead
     # A length of 1 at least: where no shorter step stays in the window, w and 1 does.
-    return moved(number, (1, 1))
+    return moved(number, LONGEST_STEP)
 
 
 def point_before(m, x, number):
     for step in steps_below_longest(m):
-        behind = moved(number, (-step[0], -step[1]))
+        behind = moved_back(number, step)
         if is_point(m, x, behind):
             return behind
     # No step is longer than w and 1, so one that leads here and is none of those is it.
-    return moved(number, (-1, -1))
+    return moved_back(number, LONGEST_STEP)
 
 
 def own_point(m, x):
@@ -144,6 +153,36 @@ def how_many_below(m, x, start, z):
     return how_many
 
 
+def where_it_stays(m, x, step):
+    """From where, and up to where, partners lie from which the step doesn't lead out of the window."""
+    start = (x[0], x[1])
+    end = (x[2], x[3])
+    partner = partner_of(m, step)
+    if is_below_zero(m, partner[0], partner[1]):
+        return (moved_back(start, partner), end)
+    return (start, moved_back(end, partner))
+
+
+def parted(m, x):
+    """Each step with its part of the window, (step, from where, up to where), the least step first."""
+    low = (x[0], x[1])
+    high = (x[2], x[3])
+    found = []
+    for step in steps_below_longest(m) + [LONGEST_STEP]:
+        # From low on, below high: there no shorter step stays in the window, so this one leads
+        # from wherever it does. That lies at one end or the other, and what is left is one part.
+        fits = where_it_stays(m, x, step)
+        start = fits[0] if is_below(m, low, fits[0]) else low
+        end = fits[1] if is_below(m, fits[1], high) else high
+        if is_below(m, start, end):
+            found.append((step, start, end))
+            if start == low:
+                low = end
+            else:
+                high = start
+    return found
+
+
 def answer_of(leading, numbers):
     answer = [leading]
     for number in numbers:
@@ -200,3 +239,20 @@ def count(m, x, y, z):
     if how_many > MOST_COUNTED:
         return [TOO_MANY_POINTS]
     return [how_many]
+
+
+def steps(m, x):
+    if not is_right_window(m, x):
+        return [NOT_AS_TOLD]
+    found = parted(m, x)
+    return answer_of(len(found), [part[0] for part in found])
+
+
+def parts(m, x):
+    if not is_right_window(m, x):
+        return [NOT_AS_TOLD]
+    found = parted(m, x)
+    numbers = []
+    for part in found:
+        numbers.extend([part[0], part[1], part[2]])
+    return answer_of(len(found), numbers)
